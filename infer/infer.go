@@ -6,6 +6,7 @@ import (
 
 	"typer/api"
 	"typer/expr"
+	"typer/types"
 )
 
 // Show: the one text of an expression (P2).
@@ -19,10 +20,30 @@ func Show(src string) (string, error) {
 }
 
 // Canon: the one text of a type (P3).
-func Canon(typ string) (string, error) { return "", nil }
+func Canon(typ string) (string, error) {
+	t, err := types.Read(typ)
+	if err != nil {
+		return "", err
+	}
+	return types.OneText(t), nil
+}
 
 // Instance: by which types for its variables a type becomes another (P3).
-func Instance(general string, special string) (map[string]api.Typed, error) { return nil, nil }
+func Instance(general string, special string) (map[string]api.Typed, error) {
+	g, err := types.Read(general)
+	if err != nil {
+		return nil, err
+	}
+	s, err := types.Read(special)
+	if err != nil {
+		return nil, err
+	}
+	found, ok := types.Match(g, s)
+	if !ok {
+		return nil, api.ErrNot
+	}
+	return found, nil
+}
 
 // Infer: the type of an expression (P4, P5).
 func Infer(src string, env map[string]api.Typed, fuel int) (string, error) { return "", nil }

@@ -6,6 +6,7 @@ import (
 	"math"
 	"strings"
 	"testing"
+	"unsafe"
 
 	"typer/api"
 	"typer/infer"
@@ -13,23 +14,30 @@ import (
 
 // oddTexts: texts that are no expressions, or hardly.
 func oddTexts() []string {
-	texts := []string{"", " ", "\n", "\x00", "\xff\xfe", "é", "(", ")", ",", "->", "[a]", "fun", "let rec", "x", "1", "(x, y)"}
-	for _, piece := range []string{"(", ")", "x", "x ", "1", "\x00", "fun x->", "if ", "let x=", "let rec x=", "(1,"} {
+	texts := []string{"", " ", "\n", "\x00", "\xff\xfe", "é", "(", ")", ",", "->", "[a]", "[", "]", "a ->", "[int] -> bool", "fun", "let rec", "x", "1", "(x, y)"}
+	for _, piece := range []string{"(", ")", "x", "x ", "1", "\x00", "fun x->", "if ", "let x=", "let rec x=", "(1,", "[", "[a", "a->", "(a,", "]"} {
 		texts = append(texts, strings.Repeat(piece, api.MaxText/len(piece)), strings.Repeat(piece, 100000))
 	}
 	return texts
 }
 
-// one: is it a text without an error, or an error of P2 with the empty text?
-func one(text string, err error) bool {
+// told: is it an error that reading a text may tell?
+func told(err error) bool {
 	var s *api.SyntaxError
-	if err == nil {
-		return text != ""
-	}
-	return text == "" && (errors.As(err, &s) || errors.Is(err, api.ErrLong) || errors.Is(err, api.ErrDeep))
+	return errors.As(err, &s) || errors.Is(err, api.ErrLong) || errors.Is(err, api.ErrDeep) || errors.Is(err, api.ErrBig)
 }
 
-func TestP1ShowOfAnyBytes(t *testing.T) {
+// steady: does the call answer a text without an error, or an error with the empty text, and the same again?
+func steady(call func(string) (string, error), of string) bool {
+	text, err := call(of)
+	again, err2 := call(of)
+	if text != again || (err == nil) != (err2 == nil) {
+		return false
+	}
+	return err == nil && text != "" || text == "" && told(err)
+}
+
+func TestP1AnyBytes(t *testing.T) {
 	texts := oddTexts()
 	for a := range 256 {
 		texts = append(texts, string([]byte{byte(a)}))
@@ -37,29 +45,41 @@ func TestP1ShowOfAnyBytes(t *testing.T) {
 			texts = append(texts, string([]byte{byte(a), byte(b)}))
 		}
 	}
-	for _, src := range texts {
-		text, err := infer.Show(src)
-		if !one(text, err) {
-			t.Fatalf("P1: Show(%.60q) = %q, %v", src, text, err)
+	for _, text := range texts {
+		if !steady(infer.Show, text) {
+			got, err := infer.Show(text)
+			t.Fatalf("P1: Show(%.60q) = %q, %v", text, got, err)
 		}
-		again, err2 := infer.Show(src)
-		if text != again || (err == nil) != (err2 == nil) {
-			t.Fatalf("P1: Show(%.60q) answers %q, %v, then %q, %v", src, text, err, again, err2)
+		if !steady(infer.Canon, text) {
+			got, err := infer.Canon(text)
+			t.Fatalf("P1: Canon(%.60q) = %q, %v", text, got, err)
+		}
+		if m, err := infer.Instance(text, "int"); (m == nil) == (err == nil) || err != nil && !told(err) && !errors.Is(err, api.ErrNot) {
+			t.Fatalf("P1: Instance(%.60q, int) = %v, %v", text, m, err)
+		}
+		if m, err := infer.Instance("a", text); (m == nil) == (err == nil) || err != nil && !told(err) {
+			t.Fatalf("P1: Instance(a, %.60q) = %v, %v", text, m, err)
 		}
 	}
 }
 
 // An error that one call has told is not changed by another call.
 func TestP1ErrorsAreTheCallers(t *testing.T) {
-	var first, second *api.SyntaxError
-	_, err := infer.Show("x )")
-	if !errors.As(err, &first) {
-		t.Fatalf("P1: %v", err)
-	}
-	first.At = 77
-	_, err = infer.Show("x )")
-	if !errors.As(err, &second) || second.At != 2 {
-		t.Errorf("P1: %v, want a *SyntaxError at 2", err)
+	for _, call := range []func() error{
+		func() error { _, err := infer.Show("x )"); return err },
+		func() error { _, err := infer.Canon("x )"); return err },
+		func() error { _, err := infer.Instance("x )", "a"); return err },
+		func() error { _, err := infer.Instance("a", "x )"); return err },
+	} {
+		var first, second *api.SyntaxError
+		err := call()
+		if !errors.As(err, &first) {
+			t.Fatalf("P1: %v", err)
+		}
+		first.At = 77
+		if err = call(); !errors.As(err, &second) || second.At != 2 {
+			t.Errorf("P1: %v, want a *SyntaxError at 2", err)
+		}
 	}
 }
 
@@ -79,6 +99,32 @@ func TestP1EveryCallEnds(t *testing.T) {
 		}
 		if !maps.Equal(env, was) {
 			t.Fatalf("P1: the map has changed at %.60q", src)
+		}
+	}
+}
+
+// shares: does the text hold memory of the other?
+func shares(text, other string) bool {
+	at, from := uintptr(unsafe.Pointer(unsafe.StringData(text))), uintptr(unsafe.Pointer(unsafe.StringData(other)))
+	return at < from+uintptr(len(other)) && from < at+uintptr(len(text))
+}
+
+func TestP1TextsAreTheCallers(t *testing.T) {
+	// Two bytes or more: a text of one is often the same memory anyway.
+	src, general, special := strings.Clone("xy"), strings.Clone("ab -> cd -> ef"), strings.Clone("int -> xy -> [zz]")
+	if text, _ := infer.Show(src); text != "xy" || shares(text, src) {
+		t.Errorf("P1: Show(%q) shares memory with it", src)
+	}
+	if text, _ := infer.Canon(special); shares(text, special) {
+		t.Errorf("P1: Canon(%q) shares memory with it", special)
+	}
+	m, err := infer.Instance(general, special)
+	if len(m) != 3 || err != nil {
+		t.Fatal(m, err)
+	}
+	for name, typed := range m {
+		if shares(name, general) || shares(typed.Type, special) {
+			t.Errorf("P1: %s: %q shares memory with what was handed in", name, typed.Type)
 		}
 	}
 }

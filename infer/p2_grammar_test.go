@@ -11,8 +11,8 @@ import (
 	"typer/infer"
 )
 
-// rules: the document's grammar, word for word: name and number are tokens of their kinds; ands and atoms are what may stand any number of times.
-func rules(of string) [][]string {
+// expRules: the document's grammar of expressions, word for word: name and number are tokens of their kinds; ands and atoms are what may stand any number of times.
+func expRules(of string) [][]string {
 	switch of {
 	case "exp":
 		return [][]string{
@@ -32,68 +32,14 @@ func rules(of string) [][]string {
 	return nil
 }
 
-// opened: all that a list of what is still to come may be, with a token first, or with nothing left.
-func opened(todo []string) [][]string {
-	if len(todo) == 0 || rules(todo[0]) == nil {
-		return [][]string{todo}
-	}
-	var out [][]string
-	for _, rule := range rules(todo[0]) {
-		out = append(out, opened(slices.Concat(rule, todo[1:]))...)
-	}
-	return out
-}
-
-// behind: what may be to come behind one more token.
-func behind(todos [][]string, token string) [][]string {
-	var out [][]string
-	for _, todo := range todos {
-		if len(todo) > 0 && todo[0] == token {
-			out = append(out, opened(todo[1:])...)
-		}
-	}
-	return out
-}
-
-// kinds: all the tokens there are, one of each kind.
-var kinds = []string{"fun", "let", "rec", "and", "in", "if", "then", "else", "->", "=", "(", ")", ",", "[", "]", "name", "number"}
-
-// spelt: a token of that kind: no name twice, so that none can stand in a let rec already.
-func spelt(kind string, nth int) string {
-	switch kind {
-	case "name":
-		return "n" + string(rune('a'+nth))
-	case "number":
-		return "7"
-	}
-	return kind
-}
-
-// walk goes through all beginnings of expressions of up to some tokens, and asks of each next token whether Show refuses just what the grammar does.
-func walk(t *testing.T, todos [][]string, text string, nth, most int) {
-	whole := slices.ContainsFunc(todos, func(todo []string) bool { return len(todo) == 0 })
-	if got, err := infer.Show(text); whole != (err == nil) || whole != (got != "") {
-		t.Fatalf("P2: Show(%q) = %q, %v; an expression: %v", text, got, err, whole)
-	}
-	if !whole {
-		refusedAt(t, text, len(text))
-	}
-	if nth == most {
-		return
-	}
-	for _, kind := range kinds {
-		longer := text + spelt(kind, nth) + " "
-		if next := behind(todos, kind); next != nil {
-			walk(t, next, longer, nth+1, most)
-		} else {
-			refusedAt(t, longer+"x ) #", len(text))
-		}
-	}
-}
-
-// The walk begins anew behind beginnings that it would not come to in so few steps.
 func TestP2Grammar(t *testing.T) {
-	for _, start := range []string{
+	g := grammar{
+		promise: "P2",
+		ask:     infer.Show,
+		rules:   expRules,
+		kinds:   words("fun let rec and in if then else -> = ( ) , [ ] name number"),
+	}
+	g.walkFrom(t, "exp", 6, []string{
 		"",
 		"let rec name = number",
 		"let rec name = number and name = number",
@@ -101,13 +47,7 @@ func TestP2Grammar(t *testing.T) {
 		"if number then number else",
 		"( fun name -> number , let name = number",
 		"( ( number , number )",
-	} {
-		todos, text, tokens := opened([]string{"exp"}), "", words(start)
-		for nth, kind := range tokens {
-			todos, text = behind(todos, kind), text+spelt(kind, nth)+" "
-		}
-		walk(t, todos, text, len(tokens), len(tokens)+6)
-	}
+	})
 }
 
 // made: an expression that a test has made: the tokens of its one text; tokens of another text of it; what it is; how deep it is.

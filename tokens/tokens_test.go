@@ -1,6 +1,7 @@
 package tokens
 
 import (
+	"errors"
 	"slices"
 	"strings"
 	"testing"
@@ -44,4 +45,39 @@ func TestTokens(t *testing.T) {
 			t.Errorf("tokens of %q: %v, want %v", c.text, got, c.want)
 		}
 	}
+}
+
+// words: takes words, as far as they stand.
+func words(r *Reader) []string {
+	var list []string
+	for r.Next.Kind == Word {
+		list = append(list, r.Take())
+	}
+	return list
+}
+
+func TestWhole(t *testing.T) {
+	if list, err := Whole(" let it be ", words); !slices.Equal(list, []string{"let", "it", "be"}) || err != nil {
+		t.Errorf("all of a text: %v, %v", list, err)
+	}
+	var s *api.SyntaxError
+	if list, err := Whole("let it (be)", words); list != nil || !errors.As(err, &s) || s.At != 7 {
+		t.Errorf("a part of a text: %v, %v", list, err)
+	}
+	if list, err := Whole(strings.Repeat(" ", api.MaxText), words); list != nil || err != nil {
+		t.Errorf("a text of MaxText bytes: %v, %v", list, err)
+	}
+	if list, err := Whole(strings.Repeat(" ", api.MaxText+1), words); list != nil || !errors.Is(err, api.ErrLong) {
+		t.Errorf("a text of one byte more: %v, %v", list, err)
+	}
+}
+
+// A fault of the program is not told as one of the text.
+func TestWholePassesOtherPanicsOn(t *testing.T) {
+	defer func() {
+		if p := recover(); p != "a fault" {
+			t.Errorf("recovered %v", p)
+		}
+	}()
+	Whole("x", func(r *Reader) int { panic("a fault") })
 }
