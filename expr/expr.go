@@ -24,10 +24,11 @@ func above(below ...Exp) part {
 	return part{depth: deepest + 1}
 }
 
-// Name: a name that is used.
+// Name: a name that is used, and the place where it stands.
 type Name struct {
 	part
 	Text string
+	At   int
 }
 
 // Number: a number, as it was written.

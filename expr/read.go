@@ -114,7 +114,8 @@ func (r reader) nextIsAtom() bool {
 func (r reader) atom() Exp {
 	switch {
 	case r.nextIsName():
-		return &Name{part: above(), Text: r.Take()}
+		at := r.Next.At
+		return &Name{part: above(), Text: r.Take(), At: at}
 	case r.Next.Kind == tokens.Number:
 		return &Number{part: above(), Text: r.Take()}
 	}
@@ -144,6 +145,12 @@ func (r reader) name() string {
 
 func (r reader) nextIsName() bool {
 	return r.Next.Kind == tokens.Word && !isKeyword(r.Next.Text)
+}
+
+// IsName: is the text a name, and nothing beside it?
+func IsName(text string) bool {
+	first := tokens.Next(text, 0)
+	return first.Kind == tokens.Word && first.Text == text && !isKeyword(text)
 }
 
 // isKeyword: is the word one of those that are no names?

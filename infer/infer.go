@@ -7,6 +7,7 @@ import (
 	"typer/api"
 	"typer/expr"
 	"typer/types"
+	"typer/typing"
 )
 
 // Show: the one text of an expression (P2).
@@ -45,8 +46,28 @@ func Instance(general string, special string) (map[string]api.Typed, error) {
 	return found, nil
 }
 
-// Infer: the type of an expression (P4, P5).
-func Infer(src string, env map[string]api.Typed, fuel int) (string, error) { return "", nil }
+// Infer: the type of an expression (P4).
+func Infer(src string, env map[string]api.Typed, fuel int) (string, error) {
+	e, err := expr.Read(src)
+	if err != nil {
+		return "", err
+	}
+	if fuel < 1 || fuel > api.MaxFuel {
+		return "", api.ErrArg
+	}
+	known, err := schemes(env)
+	if err != nil {
+		return "", err
+	}
+	if err := allKnown(e, known); err != nil {
+		return "", err
+	}
+	is, err := typing.Of(e, known)
+	if err != nil {
+		return "", err
+	}
+	return types.OneText(is.Type), nil
+}
 
 // Watch: that, and each round of each group (P6).
 func Watch(src string, env map[string]api.Typed, fuel int, each func(names []string, round int, schemes []string) bool) (string, error) {

@@ -24,7 +24,16 @@ func oddTexts() []string {
 // told: is it an error that reading a text may tell?
 func told(err error) bool {
 	var s *api.SyntaxError
-	return errors.As(err, &s) || errors.Is(err, api.ErrLong) || errors.Is(err, api.ErrDeep) || errors.Is(err, api.ErrBig)
+	var u *api.UnboundError
+	return errors.As(err, &s) || errors.As(err, &u) || errors.Is(err, api.ErrLong) || errors.Is(err, api.ErrDeep) || errors.Is(err, api.ErrBig)
+}
+
+// inferred: Infer, as a call of one text.
+func inferred(src string) (string, error) { return infer.Infer(src, nil, api.MaxFuel) }
+
+// ofEnv: likewise, of the type that a name has.
+func ofEnv(typ string) (string, error) {
+	return infer.Infer("x", map[string]api.Typed{"x": {Type: typ}}, api.MaxFuel)
 }
 
 // steady: does the call answer a text without an error, or an error with the empty text, and the same again?
@@ -54,6 +63,14 @@ func TestP1AnyBytes(t *testing.T) {
 			got, err := infer.Canon(text)
 			t.Fatalf("P1: Canon(%.60q) = %q, %v", text, got, err)
 		}
+		if !steady(inferred, text) {
+			got, err := inferred(text)
+			t.Fatalf("P1: Infer(%.60q) = %q, %v", text, got, err)
+		}
+		if !steady(ofEnv, text) {
+			got, err := ofEnv(text)
+			t.Fatalf("P1: Infer(x) with x: %.60q = %q, %v", text, got, err)
+		}
 		if m, err := infer.Instance(text, "int"); (m == nil) == (err == nil) || err != nil && !told(err) && !errors.Is(err, api.ErrNot) {
 			t.Fatalf("P1: Instance(%.60q, int) = %v, %v", text, m, err)
 		}
@@ -70,6 +87,8 @@ func TestP1ErrorsAreTheCallers(t *testing.T) {
 		func() error { _, err := infer.Canon("x )"); return err },
 		func() error { _, err := infer.Instance("x )", "a"); return err },
 		func() error { _, err := infer.Instance("a", "x )"); return err },
+		func() error { _, err := inferred("x )"); return err },
+		func() error { _, err := ofEnv("x )"); return err },
 	} {
 		var first, second *api.SyntaxError
 		err := call()
@@ -80,6 +99,20 @@ func TestP1ErrorsAreTheCallers(t *testing.T) {
 		if err = call(); !errors.As(err, &second) || second.At != 2 {
 			t.Errorf("P1: %v, want a *SyntaxError at 2", err)
 		}
+	}
+	var u *api.UnboundError
+	for range 2 {
+		if _, err := inferred("1 y"); !errors.As(err, &u) || *u != (api.UnboundError{At: 2, Name: "y"}) {
+			t.Errorf("P1: %v, want an *UnboundError of y at 2", err)
+		}
+		*u = api.UnboundError{At: 77, Name: "mine"}
+	}
+	var e *api.EnvError
+	for range 2 {
+		if _, err := ofEnv(strings.Repeat(" ", api.MaxText+1)); !errors.As(err, &e) || *e != (api.EnvError{Name: "x", Why: api.ErrLong}) {
+			t.Errorf("P1: %v, want an *EnvError of x", err)
+		}
+		*e = api.EnvError{Name: "mine"}
 	}
 }
 
@@ -103,6 +136,17 @@ func TestP1EveryCallEnds(t *testing.T) {
 	}
 }
 
+// Whatever is answered of expressions with let rec, it is a text or an error.
+func TestP1LetRec(t *testing.T) {
+	for _, src := range []string{"let rec f = f in f", "let rec f = fun x -> f in f", "fun y -> let rec f = y and g = f in (f, g)", "(let rec f = 1 in f, 1 2)", "let rec f = 1 2 in f", "let x = let rec f = f in f in 1"} {
+		for fuel := 1; fuel <= api.MaxFuel; fuel++ {
+			if text, err := infer.Infer(src, nil, fuel); (text == "") == (err == nil) {
+				t.Errorf("P1: Infer(%q) = %q, %v", src, text, err)
+			}
+		}
+	}
+}
+
 // shares: does the text hold memory of the other?
 func shares(text, other string) bool {
 	at, from := uintptr(unsafe.Pointer(unsafe.StringData(text))), uintptr(unsafe.Pointer(unsafe.StringData(other)))
@@ -117,6 +161,19 @@ func TestP1TextsAreTheCallers(t *testing.T) {
 	}
 	if text, _ := infer.Canon(special); shares(text, special) {
 		t.Errorf("P1: Canon(%q) shares memory with it", special)
+	}
+	var u *api.UnboundError
+	if _, err := inferred(src); !errors.As(err, &u) || shares(u.Name, src) {
+		t.Errorf("P1: the *UnboundError of Infer(%q) shares memory with it", src)
+	}
+	var e *api.EnvError
+	for _, name := range []string{strings.Clone("let"), strings.Clone("xy")} {
+		if _, err := infer.Infer("1", map[string]api.Typed{name: {Type: "("}}, 1); !errors.As(err, &e) || shares(e.Name, name) {
+			t.Errorf("P1: the *EnvError of %q shares memory with it", name)
+		}
+	}
+	if text, _ := infer.Infer(src, map[string]api.Typed{"xy": {Type: special}}, 1); text == "" || shares(text, special) {
+		t.Errorf("P1: Infer(%q) shares memory with %q", src, special)
 	}
 	m, err := infer.Instance(general, special)
 	if len(m) != 3 || err != nil {

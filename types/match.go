@@ -17,23 +17,19 @@ func Match(general, special Type) (map[string]api.Typed, bool) {
 
 // fits: does special come of general, by what has been found already and what it finds on the way?
 func fits(general, special Type, found map[string]api.Typed) bool {
-	switch g := general.(type) {
-	case *Var:
-		return standsFor(g.Name, special, found)
-	case *Basic:
-		s, ok := special.(*Basic)
-		return ok && g.Text == s.Text
-	case *List:
-		s, ok := special.(*List)
-		return ok && fits(g.Of, s.Of, found)
-	case *Pair:
-		s, ok := special.(*Pair)
-		return ok && fits(g.Left, s.Left, found) && fits(g.Right, s.Right, found)
-	case *Arrow:
-		s, ok := special.(*Arrow)
-		return ok && fits(g.From, s.From, found) && fits(g.To, s.To, found)
+	if v, ok := general.(*Var); ok {
+		return standsFor(v.Name, special, found)
 	}
-	return false
+	if !alike(general, special) {
+		return false
+	}
+	below := special.Below()
+	for k, g := range general.Below() {
+		if !fits(g, below[k], found) {
+			return false
+		}
+	}
+	return true
 }
 
 // standsFor: a variable stands for one type wherever it stands. Types are held against each other by their own texts: no two types have the same.

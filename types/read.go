@@ -16,7 +16,7 @@ func Read(text string) (Type, error) {
 	if err != nil {
 		return nil, err
 	}
-	if t.Size() > api.MaxSize {
+	if Big(t) {
 		return nil, api.ErrBig
 	}
 	return t, nil
