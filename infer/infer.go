@@ -46,8 +46,13 @@ func Instance(general string, special string) (map[string]api.Typed, error) {
 	return found, nil
 }
 
-// Infer: the type of an expression (P4).
+// Infer: the type of an expression (P4, P5).
 func Infer(src string, env map[string]api.Typed, fuel int) (string, error) {
+	return Watch(src, env, fuel, nil)
+}
+
+// Watch: that, and each round of each group (P6).
+func Watch(src string, env map[string]api.Typed, fuel int, each func(names []string, round int, schemes []string) bool) (string, error) {
 	e, err := expr.Read(src)
 	if err != nil {
 		return "", err
@@ -62,14 +67,9 @@ func Infer(src string, env map[string]api.Typed, fuel int) (string, error) {
 	if err := allKnown(e, known); err != nil {
 		return "", err
 	}
-	is, err := typing.Of(e, known)
+	is, err := typing.Of(e, known, typing.Rounds{Most: fuel, Each: each})
 	if err != nil {
 		return "", err
 	}
 	return types.OneText(is.Type), nil
-}
-
-// Watch: that, and each round of each group (P6).
-func Watch(src string, env map[string]api.Typed, fuel int, each func(names []string, round int, schemes []string) bool) (string, error) {
-	return "", nil
 }

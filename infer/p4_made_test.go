@@ -10,10 +10,11 @@ import (
 	"typer/infer"
 )
 
-// term: an expression that a test has made: "fun", "if", "let", "apply" or "pair", with those right below it and the name that it gives; or a lone name or number, and where it stands in the text.
+// term: an expression that a test has made: "fun", "if", "let", "rec", "apply" or "pair", with those right below it and the name, or the group of names, that it gives; or a lone name or number, and where it stands in the text.
 type term struct {
 	kind  string
 	name  string
+	group []string
 	below []*term
 	at    int
 }
@@ -30,6 +31,12 @@ func (e *term) write(text string) string {
 	case "let":
 		text = e.below[0].write(text + "let " + e.name + " = ")
 		return e.below[1].write(text + " in ")
+	case "rec":
+		text += "let rec "
+		for k, name := range e.group {
+			text = e.below[k].write(text+name+" = ") + []string{" and ", " in "}[(k+1)/len(e.group)]
+		}
+		return e.below[len(e.group)].write(text)
 	case "apply":
 		return e.below[1].atom(e.below[0].atom(text) + " ")
 	case "pair":
@@ -57,8 +64,10 @@ type given struct {
 
 // plainly types expressions in the plainest way there is: each time it works out all that has been found out, in all types, anew.
 type plainly struct {
-	found map[string]shape
-	fresh int
+	found  map[string]shape
+	fresh  int
+	fuel   int
+	rounds []string // what is to be told, a line a round
 }
 
 func (p *plainly) variable() shape {
@@ -121,6 +130,8 @@ func (p *plainly) find(e *term, names []given) shape {
 	case "let":
 		s := p.typ(e.below[0], names)
 		return p.typ(e.below[1], append(names[:len(names):len(names)], given{e.name, s, p.any(s, names)}))
+	case "rec":
+		return p.typ(e.below[len(e.group)], append(names[:len(names):len(names)], p.group(e, names)...))
 	case "apply":
 		f := p.typ(e.below[0], names)
 		a := p.typ(e.below[1], names)
@@ -200,6 +211,9 @@ func lone(e *term, known []string) *term {
 		if e.kind == "fun" || e.kind == "let" && k == 1 {
 			in = append(known[:len(known):len(known)], e.name)
 		}
+		if e.kind == "rec" {
+			in = append(known[:len(known):len(known)], e.group...)
+		}
 		if l := lone(b, in); l != nil {
 			return l
 		}
@@ -207,45 +221,59 @@ func lone(e *term, known []string) *term {
 	return nil
 }
 
-// plainType: what Infer should answer: the type, or the error; or the name that stands for nothing.
-func plainType(e *term, env []given) (text string, err error, stray *term) {
+// plain: what Watch should answer, and tell: the type, or the error, or the name that stands for nothing; and the rounds.
+type plain struct {
+	text   string
+	err    error
+	stray  *term
+	rounds []string
+}
+
+func plainType(e *term, env []given, fuel int) (is plain) {
 	var known []string
 	for _, n := range env {
 		known = append(known, n.name)
 	}
-	if stray = lone(e, known); stray != nil {
-		return "", nil, stray
+	if stray := lone(e, known); stray != nil {
+		return plain{stray: stray}
 	}
+	p := &plainly{found: map[string]shape{}, fuel: fuel}
 	defer func() {
+		is.rounds = p.rounds
 		if r := recover(); r != nil {
-			text, err = "", r.(error)
+			is.err = r.(error)
 		}
 	}()
-	p := &plainly{found: map[string]shape{}}
-	return p.typ(e, env).canonical().text(), nil, nil
+	is.text = p.typ(e, env).canonical().text()
+	return is
+}
+
+// typesOf: the environment, as it is handed in.
+func typesOf(env []given) map[string]api.Typed {
+	types := map[string]api.Typed{}
+	for _, n := range env {
+		types[n.name] = api.Typed{Type: n.typ.text()}
+	}
+	return types
 }
 
 // asPlainly: does Infer answer what it should? It says what that is: a type, an error, or a stray name.
 func asPlainly(t *testing.T, e *term, env []given) string {
 	t.Helper()
-	src := e.write("")
-	types := map[string]api.Typed{}
-	for _, n := range env {
-		types[n.name] = api.Typed{Type: n.typ.text()}
-	}
-	want, wantErr, stray := plainType(e, env)
+	src, types := e.write(""), typesOf(env)
+	want := plainType(e, env, 1)
 	typ, err := infer.Infer(src, types, 1)
 	var u *api.UnboundError
 	switch {
-	case stray != nil:
-		if typ != "" || !errors.As(err, &u) || u.Name != stray.name || u.At != stray.at {
-			t.Fatalf("P4: Infer(%q) = %q, %v, want an *UnboundError of %s at %d", src, typ, err, stray.name, stray.at)
+	case want.stray != nil:
+		if typ != "" || !errors.As(err, &u) || u.Name != want.stray.name || u.At != want.stray.at {
+			t.Fatalf("P4: Infer(%q) = %q, %v, want an *UnboundError of %s at %d", src, typ, err, want.stray.name, want.stray.at)
 		}
 		return "stray"
-	case typ != want || !errors.Is(err, wantErr):
-		t.Fatalf("P4: Infer(%q) with %v = %q, %v, want %q, %v", src, types, typ, err, want, wantErr)
-	case wantErr != nil:
-		return wantErr.Error()
+	case typ != want.text || !errors.Is(err, want.err):
+		t.Fatalf("P4: Infer(%q) with %v = %q, %v, want %q, %v", src, types, typ, err, want.text, want.err)
+	case want.err != nil:
+		return want.err.Error()
 	}
 	return "type"
 }
@@ -309,8 +337,8 @@ func TestP4SmallExpressions(t *testing.T) {
 	}
 }
 
-// anyTerm makes an expression of some parts, mostly of names that stand for something.
-func anyTerm(r *rand.Rand, parts int, known []string) *term {
+// anyTerm makes an expression of some parts, mostly of names that stand for something. recs: how many let recs there are for each twenty others.
+func anyTerm(r *rand.Rand, parts int, known []string, recs int) *term {
 	if parts <= 1 {
 		if r.IntN(8) == 0 {
 			return &term{kind: "number", name: strconv.Itoa(r.IntN(20))}
@@ -326,17 +354,33 @@ func anyTerm(r *rand.Rand, parts int, known []string) *term {
 	in := append(known[:len(known):len(known)], name)
 	left := 1 + r.IntN(max(1, parts-2))
 	right := max(1, parts-1-left)
-	switch kind := r.IntN(20); {
+	switch kind := r.IntN(20 + recs); {
 	case kind < 4 || parts == 2:
-		return &term{kind: "fun", name: name, below: []*term{anyTerm(r, parts-1, in)}}
+		return &term{kind: "fun", name: name, below: []*term{anyTerm(r, parts-1, in, recs)}}
 	case kind < 9:
-		return &term{kind: "let", name: name, below: []*term{anyTerm(r, left, known), anyTerm(r, right, in)}}
+		return &term{kind: "let", name: name, below: []*term{anyTerm(r, left, known, recs), anyTerm(r, right, in, recs)}}
 	case kind < 12:
-		return &term{kind: "pair", below: []*term{anyTerm(r, left, known), anyTerm(r, right, known)}}
+		return &term{kind: "pair", below: []*term{anyTerm(r, left, known, recs), anyTerm(r, right, known, recs)}}
 	case kind < 13:
-		return &term{kind: "if", below: []*term{anyTerm(r, 1+r.IntN(2), known), anyTerm(r, left, known), anyTerm(r, right, known)}}
+		return &term{kind: "if", below: []*term{anyTerm(r, 1+r.IntN(2), known, recs), anyTerm(r, left, known, recs), anyTerm(r, right, known, recs)}}
+	case kind >= 20:
+		return anyGroup(r, parts, known, recs)
 	}
-	return &term{kind: "apply", below: []*term{anyTerm(r, min(left, 1+r.IntN(5)), known), anyTerm(r, right, known)}}
+	return &term{kind: "apply", below: []*term{anyTerm(r, min(left, 1+r.IntN(5)), known, recs), anyTerm(r, right, known, recs)}}
+}
+
+// anyGroup makes a let rec of one to four names.
+func anyGroup(r *rand.Rand, parts int, known []string, recs int) *term {
+	e := &term{kind: "rec"}
+	for _, k := range r.Perm(5)[:1+r.IntN(4)] {
+		e.group = append(e.group, string("xyzwn"[k]))
+	}
+	in := append(known[:len(known):len(known)], e.group...)
+	for range e.group {
+		e.below = append(e.below, anyTerm(r, 1+r.IntN(max(1, parts/len(e.group))), in, recs))
+	}
+	e.below = append(e.below, anyTerm(r, 1+r.IntN(4), in, recs))
+	return e
 }
 
 // anyEnv makes an environment of some names that hold for all, and some of any type.
@@ -365,7 +409,7 @@ func TestP4MadeExpressions(t *testing.T) {
 		for _, n := range env {
 			known = append(known, n.name)
 		}
-		e := anyTerm(r, 1+r.IntN(16), known)
+		e := anyTerm(r, 1+r.IntN(16), known, 0)
 		if text := e.write(""); len(text) <= api.MaxText {
 			seen[asPlainly(t, e, env)]++
 		}

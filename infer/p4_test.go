@@ -473,24 +473,28 @@ func TestP4TellsFirst(t *testing.T) {
 	}
 }
 
-// soon: what the call answers; none that would go through all of a type that is greater than can be counted ends in time.
-func soon(t *testing.T, src string, env map[string]api.Typed, want error) {
+// soon: what the call answers, watched or not; none that would go through all of a type that is greater than can be counted ends in time.
+func soon(t *testing.T, src string, env map[string]api.Typed, fuel int, want error) {
 	t.Helper()
 	if len(src) > api.MaxText {
 		t.Fatalf("too long: %q", src)
 	}
-	told := make(chan error, 1)
+	told := make(chan error, 2)
 	go func() {
-		_, err := infer.Infer(src, env, 1)
+		_, err := infer.Infer(src, env, fuel)
+		told <- err
+		_, err = infer.Watch(src, env, fuel, func([]string, int, []string) bool { return true })
 		told <- err
 	}()
-	select {
-	case err := <-told:
-		if !errors.Is(err, want) {
-			t.Errorf("P4: Infer(%q): %v, want %v", src, err, want)
+	for range 2 {
+		select {
+		case err := <-told:
+			if !errors.Is(err, want) {
+				t.Errorf("P1: Infer or Watch of %q with a fuel of %d: %v, want %v", src, fuel, err, want)
+			}
+		case <-time.After(20 * time.Second):
+			t.Fatalf("P1: Infer or Watch of %q does not end", src)
 		}
-	case <-time.After(20 * time.Second):
-		t.Fatalf("P1: Infer(%q) does not end", src)
 	}
 }
 
@@ -526,23 +530,23 @@ func TestP1GreatTypesEnd(t *testing.T) {
 	one, other := "abcfghij", "klmnopqr"
 	two := []string{one, other}
 	for _, last := range []string{"1", "s j r", "let z=1 in z", "(s j one,s r one)"} {
-		soon(t, grown("(1,2)", "", two, last), env, api.ErrBig)
-		soon(t, grown("(1,t)", "", two, last), env, api.ErrType)
-		soon(t, grown("(a,k)", "", two, last), env, api.ErrBig)
-		soon(t, grown("((a,k),(k,a))", "", two, last), env, api.ErrBig)
+		soon(t, grown("(1,2)", "", two, last), env, 1, api.ErrBig)
+		soon(t, grown("(1,t)", "", two, last), env, 1, api.ErrType)
+		soon(t, grown("(a,k)", "", two, last), env, 1, api.ErrBig)
+		soon(t, grown("((a,k),(k,a))", "", two, last), env, 1, api.ErrBig)
 	}
-	soon(t, grown("(a,k)", "", two, "1 2"), env, api.ErrType)
-	soon(t, grown("(a,k)", "", two, "(s j one,s r t)"), env, api.ErrType)
-	soon(t, grown("(1,2)", "", two, "(s j one,s r t)"), env, api.ErrBig)
+	soon(t, grown("(a,k)", "", two, "1 2"), env, 1, api.ErrType)
+	soon(t, grown("(a,k)", "", two, "(s j one,s r t)"), env, 1, api.ErrType)
+	soon(t, grown("(1,2)", "", two, "(s j one,s r t)"), env, 1, api.ErrBig)
 	// One link apart, with ends of their own.
-	soon(t, grown("(a,l)", "", two, "1"), env, api.ErrBig)
+	soon(t, grown("(a,l)", "", two, "1"), env, 1, api.ErrBig)
 	// What is made equal stands within the other.
-	soon(t, grown("(a,j)", "", two, "1"), env, api.ErrType)
-	soon(t, grown("(a,g)", "", two, "1"), env, api.ErrType)
-	soon(t, grown("(j,a)", "", two, "1"), env, api.ErrType)
-	soon(t, grown("(a,k)", "(s j k,", two, "1"), env, api.ErrType)
-	soon(t, grown("(1,2)", "(s j k,", two, "1"), env, api.ErrBig)
-	soon(t, grown("(a,l)", "", two, "s j r"), env, api.ErrType)
+	soon(t, grown("(a,j)", "", two, "1"), env, 1, api.ErrType)
+	soon(t, grown("(a,g)", "", two, "1"), env, 1, api.ErrType)
+	soon(t, grown("(j,a)", "", two, "1"), env, 1, api.ErrType)
+	soon(t, grown("(a,k)", "(s j k,", two, "1"), env, 1, api.ErrType)
+	soon(t, grown("(1,2)", "(s j k,", two, "1"), env, 1, api.ErrBig)
+	soon(t, grown("(a,l)", "", two, "s j r"), env, 1, api.ErrType)
 }
 
 func TestP4SameAgain(t *testing.T) {

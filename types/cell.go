@@ -37,6 +37,19 @@ func (c *Cell) last() *Cell {
 	return last
 }
 
+// now: what a type is, by what is known of it; a cell only if nothing is.
+func now(t Type) Type {
+	c, ok := t.(*Cell)
+	if !ok {
+		return t
+	}
+	last := c.last()
+	if last.is == nil {
+		return last
+	}
+	return last.is
+}
+
 // Equal: makes two cells equal in the most general way; false: there is none, and the cells are of no use any more.
 func Equal(a, b *Cell) bool {
 	return join(a, b) && !loops(a, map[int]int{})

@@ -7,6 +7,9 @@ type Scheme struct {
 	Type Type
 }
 
+// Any: the scheme 'any type'.
+func Any() Scheme { return Scheme{Type: &Var{Name: "a"}} }
+
 // Reached: the cells, by number, that stand in some types.
 type Reached map[int]struct{}
 

@@ -9,9 +9,16 @@ import (
 	"typer/types"
 )
 
+// Rounds: how many rounds each group of names may have, and who is told of each round, and may stop all by false (nil: nobody).
+type Rounds struct {
+	Most int
+	Each func(names []string, round int, schemes []string) bool
+}
+
 // typing: an expression's typing on its way.
 type typing struct {
 	types.Cells
+	Rounds
 	env   map[string]types.Scheme
 	names []named // those that the expression gives, the inner ones behind
 }
@@ -27,8 +34,8 @@ type fault struct {
 	err error
 }
 
-// Of: the scheme of an expression, each name of which stands for something in it or in env; or api.ErrType, api.ErrBig, whichever is met first. A let rec is not typed yet: api.ErrFuel.
-func Of(e expr.Exp, env map[string]types.Scheme) (of types.Scheme, err error) {
+// Of: the scheme of an expression, each name of which stands for something in it or in env; or api.ErrType, api.ErrBig, api.ErrFuel, api.ErrStopped, whichever is met first.
+func Of(e expr.Exp, env map[string]types.Scheme, rounds Rounds) (of types.Scheme, err error) {
 	defer func() {
 		switch p := recover().(type) {
 		case nil:
@@ -38,7 +45,7 @@ func Of(e expr.Exp, env map[string]types.Scheme) (of types.Scheme, err error) {
 			panic(p)
 		}
 	}()
-	t := &typing{env: env}
+	t := &typing{Rounds: rounds, env: env}
 	return types.General(t.part(e), nil), nil
 }
 
@@ -62,7 +69,7 @@ func (t *typing) find(e expr.Exp) *types.Cell {
 	case *expr.Let:
 		return t.let(e)
 	case *expr.LetRec:
-		panic(fault{api.ErrFuel})
+		return t.within(e.Body, t.group(e.Group)...)
 	case *expr.Apply:
 		return t.apply(e)
 	case *expr.Pair:
@@ -106,11 +113,12 @@ func (t *typing) equal(a, b *types.Cell) {
 	}
 }
 
-// within: the type of a part in which one more name stands for something.
-func (t *typing) within(e expr.Exp, n named) *types.Cell {
-	t.names = append(t.names, n)
+// within: the type of a part in which more names stand for something.
+func (t *typing) within(e expr.Exp, more ...named) *types.Cell {
+	outer := len(t.names)
+	t.names = append(t.names, more...)
 	is := t.part(e)
-	t.names = t.names[:len(t.names)-1]
+	t.names = t.names[:outer]
 	return is
 }
 
