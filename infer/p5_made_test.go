@@ -96,6 +96,10 @@ func watchedPlainly(t *testing.T, e *term, env []given, fuel, stop int, tried ma
 			tried[what]++
 		}
 	}
+	// Longer than the texts of three types that parts may have.
+	if slices.ContainsFunc(want.rounds, func(line string) bool { return len(line) > 3*api.MaxSize*len("_a -> ") }) {
+		tried["great"]++
+	}
 }
 
 // allTried: has each of these been asked for often enough?

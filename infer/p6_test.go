@@ -41,7 +41,7 @@ func watched(t *testing.T, src string, env map[string]api.Typed, fuel, stop int)
 	}
 	if stopped := stop > 0 && len(s.rounds) >= stop; stopped {
 		if !errors.Is(s.err, api.ErrStopped) || len(s.rounds) != stop {
-			t.Errorf("P6: Watch(%q), stopped at %d: %q, %v", src, stop, s.rounds, s.err)
+			t.Errorf("P6: Watch(%q), stopped at %d: %.300q, %v", src, stop, s.rounds, s.err)
 		}
 		return s
 	}
@@ -86,7 +86,7 @@ func ends(t *testing.T, src string, env map[string]api.Typed, fuel int, want err
 	t.Helper()
 	got := watched(t, src, env, fuel, 0)
 	if !errors.Is(got.err, want) || !slices.Equal(got.rounds, rounds) {
-		t.Errorf("P6: Watch(%q) with a fuel of %d: %v, told %q; want %v, told %q", src, fuel, got.err, got.rounds, want, rounds)
+		t.Errorf("P6: Watch(%q) with a fuel of %d: %v, told %.300q; want %v, told %.300q", src, fuel, got.err, got.rounds, want, rounds)
 	}
 	stops(t, src, env, fuel, rounds)
 }
@@ -96,7 +96,7 @@ func stops(t *testing.T, src string, env map[string]api.Typed, fuel int, rounds 
 	for stop := 1; stop <= len(rounds); stop++ {
 		got := watched(t, src, env, fuel, stop)
 		if got.typ != "" || !errors.Is(got.err, api.ErrStopped) || !slices.Equal(got.rounds, rounds[:stop]) {
-			t.Errorf("P6: Watch(%q), stopped at %d: %q, %v, told %q; want %q", src, stop, got.typ, got.err, got.rounds, rounds[:stop])
+			t.Errorf("P6: Watch(%q), stopped at %d: %q, %v, told %.300q; want %.300q", src, stop, got.typ, got.err, got.rounds, rounds[:stop])
 		}
 	}
 }
@@ -304,15 +304,45 @@ func great(links int) (src string, env map[string]api.Typed) {
 	return src + "1" + strings.Repeat(")", links) + " in 1", names("e", paired(50, "a")+"->a->int")
 }
 
-// Outer variables that are greater than any part may be are told, as long as there is room for their texts.
+// tuple: parts, each paired with all that come behind it.
+func tuple(parts ...string) string {
+	last := len(parts) - 1
+	return "(" + strings.Join(parts[:last], ", (") + ", " + parts[last] + strings.Repeat(")", last)
+}
+
+// fifty: that many of a type, as great has them.
+func fifty(of string) string {
+	return strings.NewReplacer(",", ", ", "v", of).Replace(paired(50, "v"))
+}
+
+// Outer variables that are greater than any part may be are told, however great they are: here up to 37 million bytes.
 func TestP6GreatSchemes(t *testing.T) {
-	src, env := great(2)
-	text := func(compact string) string { return strings.ReplaceAll(compact, ",", ", ") }
-	q := text(paired(50, "a")) + " -> a -> int"
-	first, second := "f q g 1: _a, "+q+", (a, (b, int))", "f q g 2: "+text(paired(50, paired(50, "_a")))+", "+q+", (int, (int, int))"
-	ends(t, src, env, 1, api.ErrFuel, first)
-	ends(t, src, env, 2, api.ErrFuel, first, second)
-	ends(t, src, env, 3, api.ErrBig, first, second)
+	q, is := fifty("a")+" -> a -> int", fifty("_a")
+	for links := 2; links <= 4; links++ {
+		is = fifty(is)
+		src, env := great(links)
+		first := "f q g 1: _a, " + q + ", " + tuple(append(words("a b c d")[:links:links], "int")...)
+		second := "f q g 2: " + is + ", " + q + ", " + tuple(append(slices.Repeat(words("int"), links), "int")...)
+		ends(t, src, env, 1, api.ErrFuel, first)
+		ends(t, src, env, 2, api.ErrFuel, first, second)
+		ends(t, src, env, 3, api.ErrBig, first, second)
+	}
+}
+
+// Great ones wherever they may stand: in the first round, in several schemes, in the last round of a group that others stand behind, in a group within another.
+func TestP6GreatSchemesAnywhere(t *testing.T) {
+	env := names("c", "a->"+paired(50, "a")+"->int", "fst", "(a,b)->a")
+	c, great := "a -> "+fifty("a")+" -> int", fifty(fifty(fifty("_a")))
+	ends(t, "fun v->fun w->fun x->fun y->let rec f=v and g=(c w v,(c x w,c y x)) in 1", env, 3, api.ErrBig, "f g 1: "+great+", (int, (int, int))")
+	ends(t, "fun v->fun w->fun x->fun y->let rec f=v and g=(c w v,(c x w,c y x)) in 1", env, 1, api.ErrFuel, "f g 1: "+great+", (int, (int, int))")
+	ends(t, "fun v->fun w->fun x->fun y->let rec f=v and k=fun z->(y,(z,(v,w))) and g=(c w v,(c x w,c y x)) in 1", env, 3, api.ErrBig,
+		"f k g 1: "+great+", a -> (_a, (a, ("+great+", "+fifty(fifty("_a"))+"))), (int, (int, int))")
+	last := "let rec f=v and g=fst(1,(q w v,(q x w,q y x))) and q=c in "
+	rounds := []string{"f g q 1: _a, int, " + c, "f g q 2: " + great + ", int, " + c}
+	ends(t, "fun v->fun w->fun x->fun y->"+last+"let rec k=1 in k", env, 3, api.ErrBig, append(rounds, "k 1: int", "k 2: int")...)
+	ends(t, "fun v->fun w->fun x->fun y->"+last+"1 2", env, 2, api.ErrType, rounds...)
+	ends(t, "let rec h=fun v->fun w->fun x->fun y->"+last+"1 in h", env, 3, api.ErrBig, rounds...)
+	ends(t, "fun v->fun w->fun x->fun y->let rec h="+last+"1 in h", env, 3, api.ErrBig, append(rounds, "h 1: int")...)
 }
 
 func TestP1GreatSchemesEnd(t *testing.T) {

@@ -77,10 +77,7 @@ func like(t Type, below []Type) Type {
 }
 
 // Big: is the type's size above api.MaxSize?
-func Big(t Type) bool { return Above(t, api.MaxSize) }
-
-// Above: is it above that?
-func Above(t Type, size int) bool { return room(t, size) < 0 }
+func Big(t Type) bool { return room(t, api.MaxSize) < 0 }
 
 // room: what is left of so much room beside the type; below 0, if it is too big. It goes no further then: what is found out of a type can make it greater than could be counted.
 func room(t Type, left int) int {

@@ -1,9 +1,6 @@
 package types
 
-import (
-	"strconv"
-	"strings"
-)
+import "strconv"
 
 // naming: how variables are called in texts. It is asked in the order in which they stand.
 type naming struct {
@@ -12,50 +9,30 @@ type naming struct {
 }
 
 // OneText: the one text of a type.
-func OneText(t Type) string { return naming{any: letters[string]("")}.text(t) }
+func OneText(t Type) string { return draftOf(t, naming{any: letters[string]("")}).text() }
 
-// OwnText: as the one text is, but with the type's own names for its variables. The text of a lone variable would be a piece of the text it was read from, if it were not copied.
+// OwnText: as the one text is, but with the type's own names for its variables.
 func OwnText(t Type) string {
-	return strings.Clone(naming{any: func(name string) string { return name }}.text(t))
+	return draftOf(t, naming{any: func(name string) string { return name }}).text()
 }
 
-// Texts: those of schemes that are told together: what stands for any type is called anew in each, what stands for itself alone is the same in all.
-func Texts(schemes []Scheme) []string {
+// Texts: those of schemes that are told together: what stands for any type is called anew in each, what stands for itself alone is the same in all. False: they would have more than so many bytes, all together; none is written then.
+func Texts(schemes []Scheme, most int64) ([]string, bool) {
 	own := letters[int]("_")
-	var texts []string
+	var drafts []*draft
 	for _, s := range schemes {
-		texts = append(texts, naming{any: letters[string](""), own: own}.text(s.Type))
+		d := draftOf(s.Type, naming{any: letters[string](""), own: own})
+		if d.length > most {
+			return nil, false
+		}
+		most -= d.length
+		drafts = append(drafts, d)
 	}
-	return texts
-}
-
-func (n naming) text(t Type) string {
-	switch t := now(t).(type) {
-	case *Basic:
-		return t.Text
-	case *Var:
-		return n.any(t.Name)
-	case *Cell:
-		return n.own(t.number)
-	case *List:
-		return "[" + n.text(t.Of) + "]"
-	case *Pair:
-		left := n.text(t.Left)
-		return "(" + left + ", " + n.text(t.Right) + ")"
-	case *Arrow:
-		from := n.from(t.From)
-		return from + " -> " + n.text(t.To)
+	var texts []string
+	for _, d := range drafts {
+		texts = append(texts, d.text())
 	}
-	return ""
-}
-
-// from: the left side of an arrow. Without brackets, one that is an arrow would take the right side in.
-func (n naming) from(t Type) string {
-	text := n.text(t)
-	if _, arrow := now(t).(*Arrow); arrow {
-		return "(" + text + ")"
-	}
-	return text
+	return texts, true
 }
 
 // letters: a, b and so on, behind a mark, in the order in which they are asked for.

@@ -1,6 +1,7 @@
 package typing
 
 import (
+	"math"
 	"strings"
 
 	"typer/api"
@@ -49,8 +50,8 @@ func same(ahead, next []named) bool {
 	return true
 }
 
-// tellable: the greatest size of a scheme whose text is told. Outer variables can be found out to be greater than any memory; the fun that gives such a one is too big then, so that the call answers an error in any case.
-const tellable = 1 << 16
+// tellable: how many bytes the texts of a round may have, all together, to be told. Outer variables can be found out to be greater than any memory. Which rounds are told must hang on the call's arguments alone: so it is not what this machine has room for, but the greatest length that a text has on every machine. The fun that gives so great a variable is too big, so that the call answers an error in any case.
+const tellable = math.MaxInt32
 
 // tell: all is stopped, if the watcher says so. It gets new lists each time, as they are its own.
 func (t *typing) tell(group []named, round int) {
@@ -60,13 +61,11 @@ func (t *typing) tell(group []named, round int) {
 	var names []string
 	var schemes []types.Scheme
 	for _, n := range group {
-		if types.Above(n.scheme.Type, tellable) {
-			return
-		}
 		names = append(names, strings.Clone(n.name))
 		schemes = append(schemes, n.scheme)
 	}
-	if !t.Each(names, round, types.Texts(schemes)) {
+	texts, ok := types.Texts(schemes, tellable)
+	if ok && !t.Each(names, round, texts) {
 		panic(fault{api.ErrStopped})
 	}
 }
